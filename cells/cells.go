@@ -88,7 +88,7 @@ func (c *Cells) Copy() *Cells {
 // check asks for the bytes ahead of the power, as the errors are named. The sum
 // at + n is not built: it could wrap round.
 func (c *Cells) check(at, n int) error {
-	if at < 0 || n < 0 || at > c.size || n > c.size-at {
+	if at < 0 || n < 0 || n > c.size-at {
 		return api.ErrBound
 	}
 	if c.off {
